@@ -459,6 +459,45 @@ func TestC2GoesNotWrong(t *testing.T) {
 	}
 }
 
+// What is ready says of each row what Eval says, and is looked through no more.
+func TestC2Ready(t *testing.T) {
+	m := maker{state: 6}
+	cols := []int{integer, texts, boolean, none, integer}
+	rows := [][]api.Val{{num(1), text("a"), yes, null, null}, {null, null, null, null, null}, {num(-3), {Kind: api.VText, N: 2}, no, null, {Kind: api.VInt, N: 4, Text: "junk"}}}
+	for range 5000 {
+		x := m.expr(len(cols), 3)
+		wantKind, wantErr := Type(cols, x)
+		kind, value, err := Ready(cols, x)
+		if kind != wantKind || err != wantErr || (value == nil) != (err != api.OK) {
+			t.Errorf("%#v: type %d and error %d come, not type %d and error %d", x, kind, err, wantKind, wantErr)
+		}
+		for _, row := range rows {
+			if want, err := Eval(cols, x, row); err == api.OK && value(row) != want {
+				t.Errorf("%#v of %#v: %#v comes, not %#v", x, row, value(row), want)
+			}
+		}
+		if err == api.OK {
+			value(nil) // a row that doesn't fit: nothing panics
+			value(make([]api.Val, 2))
+		}
+	}
+}
+
+func TestC2ReadyKeepsNothing(t *testing.T) {
+	row := []api.Val{num(7)}
+	inner := []api.Expr{col(0), lit(num(1))}
+	kids := []api.Expr{{Kind: api.XAdd, Kids: inner}, lit(num(3))}
+	_, value, err := Ready([]int{integer}, api.Expr{Kind: api.XMul, Kids: kids})
+	inner[0], inner[1], kids[0], kids[1] = lit(null), api.Expr{}, api.Expr{Kind: 99}, col(5)
+	if err != api.OK || value(row) != num(24) || value(row) != num(24) {
+		t.Errorf("error %d, or %#v, comes, not 24", err, value(row))
+	}
+	row[0] = num(9)
+	if value(row) != num(30) {
+		t.Errorf("of a row that has changed %#v comes, not 30", value(row))
+	}
+}
+
 func TestZ1NothingPanics(t *testing.T) {
 	m := maker{state: 9}
 	odd := []int{math.MinInt, -1, 0, 1, 2, 3, 4, 5, 17, 19, math.MaxInt}

@@ -245,6 +245,33 @@ func TestB2OfWrong(t *testing.T) {
 	}
 }
 
+// Of what is gathered only the sums count, and how many rows are left.
+func TestB2Gather(t *testing.T) {
+	many := slices.Repeat(upTo(api.MaxRows, 1), 10)
+	for _, c := range []struct{ l, want rows }{
+		{nil, nil},
+		{rows{row(0, num(1))}, nil},
+		{rows{row(2*most, num(1)), row(1, null), row(least, num(1))}, rows{row(1, null), row(most, num(1))}},
+		{rows{row(2*most, num(1)), row(2*least, num(1))}, nil},
+		{rows{row(1, api.Val{Kind: api.VInt, N: 1, Text: "junk"}), row(1, num(1))}, rows{row(2, num(1))}},
+		{many, upTo(api.MaxRows, 10)},
+		{slices.Concat(upTo(20*api.MaxRows, 5), upTo(20*api.MaxRows, -5)), nil},
+	} {
+		got, err := Gather(c.l)
+		check(t, "Gather", got, err, c.want)
+	}
+	got, err := Gather(rows{row(2*most, num(1)), row(-1, num(1))})
+	checkError(t, "too heavy", got, err, api.ErrRange)
+	got, err = Gather(upTo(20*api.MaxRows, 1))
+	checkError(t, "too many", got, err, api.ErrMany)
+	got, err = Gather(append(upTo(20*api.MaxRows, 1), row(most, num(3))))
+	checkError(t, "too many, and too heavy", got, err, api.ErrRange)
+	for _, z := range sets() {
+		got, err = Gather(z)
+		check(t, "Gather of a set", got, err, bare(z))
+	}
+}
+
 func TestB3AddAndSub(t *testing.T) {
 	a := rows{row(1, null), row(2, num(1)), row(-1, num(2))}
 	b := rows{row(3), row(2, num(1)), row(1, num(2)), row(1, text("a"))}
@@ -448,6 +475,7 @@ func TestArgumentsAreOnlyRead(t *testing.T) {
 			t.Error("the spare room behind a list is looked at")
 		}
 		Wrong(a)
+		Gather(a)
 		Weight(a, b[3].Row)
 		for _, f := range unaries() {
 			f(a)
@@ -502,6 +530,7 @@ func TestAnswersAreTheCallers(t *testing.T) {
 	}
 	for _, a := range sets() {
 		plain(func() (rows, api.Errno) { return Of(a) }, a)
+		plain(func() (rows, api.Errno) { return Gather(a) }, a)
 		for _, f := range unaries() {
 			plain(func() (rows, api.Errno) { return f(a) }, a)
 		}
