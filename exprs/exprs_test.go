@@ -125,6 +125,19 @@ func TestC1TypesOfTwo(t *testing.T) {
 	}
 }
 
+func TestC1Together(t *testing.T) {
+	goes := alike(0)
+	for a := none; a <= texts; a++ {
+		for b := none; b <= texts; b++ {
+			want, ok := goes[[2]int{a, b}]
+			got, err := Together(a, b)
+			if got != want || ok != (err == api.OK) || !ok && err != api.ErrType {
+				t.Errorf("%d and %d: type %d and error %d come, not type %d", a, b, got, err, want)
+			}
+		}
+	}
+}
+
 func TestC1TypesOfOthers(t *testing.T) {
 	for a := none; a <= texts; a++ {
 		checkType(t, all(), col(a), a)

@@ -57,7 +57,7 @@ func Group(cols []int, keys []api.Expr, aggs []api.Agg, z []api.ZRow) ([]api.ZRo
 	if err != api.OK {
 		return nil, err
 	}
-	if err := wrong(cols, z); err != api.OK {
+	if err := Wrong(cols, z); err != api.OK {
 		return nil, err
 	}
 	parts := parted(inOrder(z, keysOf))
@@ -80,7 +80,7 @@ func Top(cols []int, keys []api.Expr, k int, z []api.ZRow) ([]api.ZRow, api.Errn
 	if k < 0 || k > api.MaxTop {
 		return nil, api.ErrRange
 	}
-	if err := wrong(cols, z); err != api.OK {
+	if err := Wrong(cols, z); err != api.OK {
 		return nil, err
 	}
 	var out []api.ZRow

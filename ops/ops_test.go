@@ -129,6 +129,7 @@ func ofSets() map[string]func(cols []int, z rows) (rows, api.Errno) {
 		out[name] = func(cols []int, z rows) (rows, api.Errno) { return f(cols, nil, z) }
 		out[name+" of a literal"] = func(cols []int, z rows) (rows, api.Errno) { return f(cols, these(lit(yes)), z) }
 	}
+	out["Wrong"] = func(cols []int, z rows) (rows, api.Errno) { return nil, Wrong(cols, z) }
 	out["Group with aggregates"] = func(cols []int, z rows) (rows, api.Errno) {
 		return Group(cols, nil, []api.Agg{{Kind: api.AgRows}, {Kind: api.AgSum, X: lit(num(1))}}, z)
 	}

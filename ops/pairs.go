@@ -23,10 +23,10 @@ func paired(left, right []int, x api.Expr, a, b []api.ZRow) (pairs, api.Errno) {
 	if err != api.OK {
 		return pairs{}, err
 	}
-	if err := wrong(left, a); err != api.OK {
+	if err := Wrong(left, a); err != api.OK {
 		return pairs{}, err
 	}
-	if err := wrong(right, b); err != api.OK {
+	if err := Wrong(right, b); err != api.OK {
 		return pairs{}, err
 	}
 	return pairs{a: a, b: b, holds: ofBoth(holds)}, api.OK
