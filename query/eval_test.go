@@ -36,11 +36,17 @@ func TestE2WrongData(t *testing.T) {
 		{"what doesn't fit ahead of the next table", []rows{{row(1, text("a"))}, {row(0)}, good[2]}, api.ErrType},
 		{"the first table ahead of the next one", []rows{{row(0, num(1))}, {row(1)}, good[2]}, api.ErrRange},
 	} {
+		if err := Wrong(tables, c.data); err != c.want {
+			t.Errorf("%s: Wrong tells error %d, not %d", c.what, err, c.want)
+		}
 		// It is asked of all tables, wherever the plan looks, and of whatever is left of them.
 		for _, p := range []api.Plan{table(0), table(1), table(2), by(api.PFilter, lit(no), table(0)), top(0, table(0))} {
 			got, err := Eval(tables, p, c.data)
 			checkError(t, c.what, got, err, c.want)
 		}
+	}
+	if err := Wrong(tables, good); err != api.OK {
+		t.Errorf("nothing is wrong: Wrong tells error %d", err)
 	}
 	for i, p := range []api.Plan{table(0), table(1), table(2)} {
 		got, err := Eval(tables, p, good)

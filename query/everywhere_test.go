@@ -319,6 +319,7 @@ func TestZ1NothingPanics(t *testing.T) {
 	for range 40000 {
 		g := m.odd()
 		cols, wrong := Cols(g.tables, g.p)
+		rowsWrong := Wrong(g.tables, g.data)
 		if wrong != api.OK && cols != nil {
 			t.Errorf("columns %d come beside error %d", cols, wrong)
 		}
@@ -328,6 +329,9 @@ func TestZ1NothingPanics(t *testing.T) {
 		}
 		if wrong != api.OK && err != wrong {
 			t.Errorf("error %d comes of the rows, %d of the columns", err, wrong)
+		}
+		if wrong == api.OK && rowsWrong != api.OK && err != rowsWrong {
+			t.Errorf("error %d comes of all, %d of the rows", err, rowsWrong)
 		}
 		if err == api.OK && zsets.Wrong(got) != api.OK {
 			t.Errorf("what comes is no set: %s", told(got))
