@@ -440,7 +440,7 @@ func (m *maker) expr(cols, deep int) api.Expr {
 	}
 	kind := api.XNot + m.upTo(api.XCoal-api.XNot+1)
 	x := api.Expr{Kind: kind, Val: m.val(), Col: m.upTo(9)}
-	for range kidsOf(kind) {
+	for range KidsOf(kind) {
 		x.Kids = append(x.Kids, m.expr(cols, deep-1))
 	}
 	return x
