@@ -37,7 +37,7 @@ func sunkJoin(x api.Expr, n node) node {
 	case !second:
 		return n.ofKid(0, sinking(x))
 	case !first:
-		moved := copied(x, func(col int) int { return col - ahead })
+		moved := exprs.Moved(x, func(col int) int { return col - ahead })
 		return n.ofKid(1, sinking(moved))
 	}
 	return narrowed(x, n)
