@@ -49,7 +49,7 @@ func Group(cols []int, keys []api.Expr, aggs []api.Agg, z []api.ZRow) ([]api.ZRo
 	if len(keys)+len(aggs) > api.MaxCols {
 		return nil, api.ErrMany
 	}
-	keysOf, err := list(cols, keys)
+	keysOf, err := List(cols, keys)
 	if err != api.OK {
 		return nil, err
 	}
@@ -73,7 +73,7 @@ func Group(cols []int, keys []api.Expr, aggs []api.Agg, z []api.ZRow) ([]api.ZRo
 
 // Top is the first k rows that are there, by keys.
 func Top(cols []int, keys []api.Expr, k int, z []api.ZRow) ([]api.ZRow, api.Errno) {
-	keysOf, err := list(cols, keys)
+	keysOf, err := List(cols, keys)
 	if err != api.OK {
 		return nil, err
 	}

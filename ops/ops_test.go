@@ -215,6 +215,33 @@ func TestD1List(t *testing.T) {
 	}
 }
 
+// What List answers may be asked again and again: each time it is new memory, and of a row that doesn't fit nothing panics.
+func TestD1ListOfRows(t *testing.T) {
+	kids := these(col(0), lit(num(1)))
+	xs := these(node(api.XAdd, kids...), col(1))
+	of, err := List([]int{integer, texts}, xs)
+	if err != api.OK {
+		t.Fatalf("error %d", err)
+	}
+	xs[1], kids[1] = col(0), col(0) // nothing of them is kept
+	first := of([]api.Val{num(4), text("a")})
+	second := of([]api.Val{num(7), null})
+	if vals.Rows(first, []api.Val{num(5), text("a")}) != 0 || vals.Rows(second, []api.Val{num(8), null}) != 0 {
+		t.Errorf("%v and %v come", first, second)
+	}
+	if got := of(nil); vals.Rows(got, []api.Val{null, null}) != 0 {
+		t.Errorf("of no values %v come", got)
+	}
+	of, err = List([]int{integer}, make([]api.Expr, api.MaxCols+1))
+	if of != nil || err != api.ErrMany {
+		t.Errorf("of too many error %d comes", err)
+	}
+	of, err = List([]int{integer}, these(col(0), col(1)))
+	if of != nil || err != api.ErrName {
+		t.Errorf("of a column that isn't there error %d comes", err)
+	}
+}
+
 // What is wrong with a set of two columns, a number and a text; where more than one thing is, the first one counts.
 func wrongSets() []struct {
 	z    rows
